@@ -1,0 +1,1 @@
+"""Volumehall: volumes laid over disks in pieces."""
