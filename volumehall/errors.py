@@ -2,7 +2,11 @@
 
 
 class VolumeError(ValueError):
-    """Any refusal."""
+    """Any refusal; it knows the name of its own class."""
+
+    def __init__(self, why=""):
+        ValueError.__init__(self, why)
+        self.kind = self.__class__.__name__
 
 
 class BadSizes(VolumeError):
