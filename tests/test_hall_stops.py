@@ -113,11 +113,15 @@ class Stops(unittest.TestCase):
             self.assertEqual(repr(model.do(step)), repr(driver.do(step)), msg=(msg, step))
 
     def assert_of_no_use(self, driver):
-        """A hall that was stopped refuses all, also when the bench goes on, and changes nothing."""
+        """A hall that was stopped refuses all, and changes nothing."""
         for step in CALLS:
             self.assertEqual("Stopped", driver.do(step), msg=step)
         self.assertEqual("BadVolume", driver.do(("drop", 10)))
         assert_refused(self, "Stopped", Hall, driver.bench)
+        self.assert_of_no_use_again(driver)
+
+    def assert_of_no_use_again(self, driver):
+        """Nor is it of use when the bench goes on."""
         driver.bench.again()
         held = (driver.bench.deeds(), [driver.bench.sheet(disk) for disk in driver.there()])
         for step in CALLS:
@@ -196,6 +200,19 @@ class Stops(unittest.TestCase):
                     model = self.make_again(driver, states, (name, count, changes))
                     self.go_on(driver, model, (name, count, changes))
         self.assertGreater(looked, 500)
+
+    def test_a_stopped_hall_that_was_asked_nothing_till_again(self):
+        for name, count in self.each_stop():
+            driver, states = self.stopped(name, count)
+            self.assert_of_no_use_again(driver)
+            self.make_again(driver, states, (name, count))
+
+    def test_a_bench_that_was_stopped_by_others(self):
+        driver, model = self.scene(())
+        driver.bench.arm(0)
+        assert_refused(self, "Stopped", driver.bench.put, 0, 0, 0, 1)
+        self.assert_of_no_use(driver)
+        self.make_again(driver, [model], "by others")
 
     def change_disks(self, chance, driver, states):
         """Some disks go or come between; whether one with the newest sheet is left."""

@@ -156,6 +156,48 @@ class Language(unittest.TestCase):
             self.assertEqual(len(methods), len(set(methods)), msg=(name, node.name))
             self.assertEqual([], sorted(set(methods) & set(stored)), msg=(name, node.name))
 
+    def test_no_name_is_a_method_here_and_an_attribute_there(self):
+        methods = {
+            part.name for _, node in self.nodes(ast.ClassDef) for part in node.body if isinstance(part, ast.FunctionDef)
+        }
+        stored = {node.attr for _, node in self.nodes(ast.Attribute) if isinstance(node.ctx, ast.Store)}
+        self.assertEqual([], sorted(methods & stored))
+
+    def test_attributes_are_assigned_through_a_name(self):
+        for name, node in self.nodes(ast.Attribute):
+            if not isinstance(node.ctx, ast.Load):
+                self.assertIsInstance(node.value, ast.Name, msg=(name, node.lineno))
+
+    def test_no_variable_has_the_name_of_a_class_or_an_import(self):
+        for name, tree in self.trees.items():
+            kept = {node.name for node in tree.body if isinstance(node, ast.ClassDef)}
+            for node in tree.body:
+                if isinstance(node, ast.ImportFrom):
+                    kept |= {alias.name for alias in node.names}
+            used = {node.arg for node in ast.walk(tree) if isinstance(node, ast.arg)}
+            used |= {node.id for node in ast.walk(tree) if isinstance(node, ast.Name) and isinstance(node.ctx, ast.Store)}
+            used |= {node.name for node in ast.walk(tree) if isinstance(node, ast.MatchAs) and node.name}
+            self.assertEqual([], sorted(kept & used), msg=name)
+
+    def test_all_that_is_imported_is_used(self):
+        for name, tree in self.trees.items():
+            loaded = {node.id for node in ast.walk(tree) if isinstance(node, ast.Name)}
+            for node in tree.body:
+                if isinstance(node, ast.ImportFrom):
+                    for alias in node.names:
+                        self.assertIn(alias.name, loaded, msg=name)
+
+    def test_no_files_import_from_each_other(self):
+        ahead = {
+            name: [node.module.partition(".")[2] + ".py" for node in tree.body if isinstance(node, ast.ImportFrom)]
+            for name, tree in self.trees.items()
+        }
+        while ahead:
+            free = [name for name in ahead if not any(other in ahead for other in ahead[name])]
+            self.assertNotEqual([], free, msg=ahead)
+            for name in free:
+                del ahead[name]
+
     def test_the_interface_stands_where_it_is_listed(self):
         for file, wished in INTERFACE.items():
             found = defined(self.trees[file + ".py"])
